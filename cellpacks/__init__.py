@@ -1,0 +1,1 @@
+"""Cells matched: tested cells, and packs built from them."""
