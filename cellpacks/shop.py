@@ -1,7 +1,11 @@
 """Answers lines of calls: cells are tested and graded, and packs are built from the loose ones."""
 
+from cellpacks.choosing import best_exchange, nearest_two
 from cellpacks.dealing import best_dealing, group_totals, spread_of, strength_of
-from cellpacks.stock import Cell, Stock, add_pack, grade_of, held, is_loose, loose_cells
+from cellpacks.resisting import behind_one_another
+from cellpacks.stock import (
+    Cell, Stock, add_pack, exchange_cells, grade_of, held, is_loose, loose_cells, remove_pack,
+)
 
 MOST_BOUNDS = 6
 MOST_CELLS = 24
@@ -12,11 +16,13 @@ MOST_IN_GROUP = 4
 MOST_DEALT = 8
 
 NO_SUCH = -2
+NOT_PACKED = -6
 NOT_STARTED = -11
 TOO_FEW = -12
 NOT_LOOSE = -16
 NOT_AS_TOLD = -22
 FULL = -28
+NO_BETTER = -33
 
 START = 0
 
@@ -25,10 +31,6 @@ HANDED = {
     1: 2, 2: 3, 3: 1, 4: 1, 5: 0, 6: 2, 7: 2, 8: 3, 9: 1, 10: 1,
     11: 1, 12: 1, 13: 1, 14: 2, 15: 1, 16: 0, 17: 0, 18: 1, 19: 1, 20: 0,
 }
-
-
-class NotBuilt(Exception):
-    pass
 
 
 def bounds_as_told(bounds):
@@ -70,6 +72,11 @@ def dealing_refusal(stock, groups, size):
     if len(loose_cells(stock)) < groups * size:
         return TOO_FEW
     return 0
+
+
+def totals_of(stock, p):
+    pack = stock.packs[p]
+    return group_totals(pack.cells, pack.size, held(stock))
 
 
 def best_of_loose(stock, groups, size):
@@ -154,9 +161,82 @@ def tell_pack(stock, p):
 def tell_strength(stock, p):
     if p not in stock.packs:
         return [NO_SUCH]
-    pack = stock.packs[p]
-    totals = group_totals(pack.cells, pack.size, held(stock))
+    totals = totals_of(stock, p)
     return [strength_of(totals), spread_of(totals)]
+
+
+def tell_weak(stock, p):
+    if p not in stock.packs:
+        return [NO_SUCH]
+    totals = totals_of(stock, p)
+    weakest = min(totals)
+    # index gives the first of several.
+    return [totals.index(weakest), weakest]
+
+
+def tell_lacks(stock, p):
+    if p not in stock.packs:
+        return [NO_SUCH]
+    totals = totals_of(stock, p)
+    strongest = max(totals)
+    return [len(totals)] + [strongest - total for total in totals]
+
+
+def tell_better(stock, p):
+    if p not in stock.packs:
+        return [NO_SUCH]
+    pack = stock.packs[p]
+    best = best_exchange(pack.cells, pack.size, loose_cells(stock), held(stock))
+    return [NO_BETTER] if best is None else best
+
+
+def exchange(stock, i, j):
+    if not has_cell(stock, i) or not has_cell(stock, j):
+        return [NO_SUCH]
+    if stock.cells[i].pack is None:
+        return [NOT_PACKED]
+    if not is_loose(stock.cells[j]):
+        return [NOT_LOOSE]
+    return [exchange_cells(stock, i, j)]
+
+
+def tell_resists(stock, p):
+    if p not in stock.packs:
+        return [NO_SUCH]
+    pack = stock.packs[p]
+    whole = behind_one_another([stock.cells[i].resists for i in pack.cells], pack.size)
+    return [0, whole[0], whole[1]]
+
+
+def tell_near(stock):
+    loose = loose_cells(stock)
+    if len(loose) < 2:
+        return [TOO_FEW]
+    return nearest_two(loose, held(stock))
+
+
+def tell_loose(stock):
+    loose = loose_cells(stock)
+    return [len(loose)] + loose
+
+
+def retire_pack(stock, p):
+    if p not in stock.packs:
+        return [NO_SUCH]
+    return [remove_pack(stock, p)]
+
+
+def look_at_cell(stock, i):
+    if not has_cell(stock, i):
+        return [NO_SUCH]
+    cell = stock.cells[i]
+    pack_and_one = 0 if cell.pack is None else cell.pack + 1
+    return [cell.holds, cell.resists, pack_and_one, 1 if cell.scrap else 0]
+
+
+def tell_state(stock):
+    scrapped = [cell for cell in stock.cells if cell.scrap]
+    return [len(stock.cells), len(loose_cells(stock)), len(stock.packs), len(scrapped)]
 
 
 ACTIONS = {
@@ -170,6 +250,16 @@ ACTIONS = {
     8: could_build,
     9: tell_pack,
     10: tell_strength,
+    11: tell_weak,
+    12: tell_lacks,
+    13: tell_better,
+    14: exchange,
+    15: tell_resists,
+    16: tell_near,
+    17: tell_loose,
+    18: retire_pack,
+    19: look_at_cell,
+    20: tell_state,
 }
 
 
@@ -190,8 +280,6 @@ def split_calls(calls):
 
 
 def answer_call(stock, number, handed):
-    if number not in ACTIONS:
-        raise NotBuilt(f"call {number} is not built yet")
     action = ACTIONS[number]
     if len(handed) == 0:
         return action(stock)

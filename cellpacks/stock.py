@@ -53,3 +53,23 @@ def add_pack(stock, size, cells):
         cell = stock.cells[i]
         cell.pack = number
     return number
+
+
+# The pack's order stays as it was: only the one place changes hands.
+def exchange_cells(stock, i, j):
+    packed = stock.cells[i]
+    loose = stock.cells[j]
+    number = packed.pack
+    pack = stock.packs[number]
+    pack.cells[pack.cells.index(i)] = j
+    packed.pack = None
+    loose.pack = number
+    return number
+
+
+def remove_pack(stock, number):
+    pack = stock.packs.pop(number)
+    for i in pack.cells:
+        cell = stock.cells[i]
+        cell.pack = None
+    return len(pack.cells)

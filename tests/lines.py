@@ -50,6 +50,46 @@ def strength(p):
     return [10, p]
 
 
+def weak(p):
+    return [11, p]
+
+
+def lacks(p):
+    return [12, p]
+
+
+def better(p):
+    return [13, p]
+
+
+def exchange(i, j):
+    return [14, i, j]
+
+
+def resists(p):
+    return [15, p]
+
+
+def near():
+    return [16]
+
+
+def loose():
+    return [17]
+
+
+def retire(p):
+    return [18, p]
+
+
+def look(i):
+    return [19, i]
+
+
+def state():
+    return [20]
+
+
 def cells(*holds):
     return [cell(held) for held in holds]
 
@@ -80,6 +120,11 @@ def run(*calls):
 
 def last(*calls):
     return run(*calls)[-1]
+
+
+def behind(before, *calls):
+    """The answers to the calls alone, where the ones before go ahead of them."""
+    return run(*before, *calls)[len(before):]
 
 
 def firsts(*calls):
